@@ -1,0 +1,69 @@
+"""Some rules of LANGUAGE.md that a look at the package's files can show."""
+
+import ast
+import pathlib
+import re
+import unittest
+
+PACKAGE = pathlib.Path(__file__).resolve().parent.parent / "wrapnets"
+# What the interface names as methods, of later modules too: no attribute may have such a name (L18).
+METHODS = """up fall rise neighbours far next turn rows add places is_whole text copy send step frames letters heaps beat
+drops told houses made learn look drop put get is_fresh takes put_room close_room enter leave move put_gate close_gate
+log ground rooms hands aliases numbers edges table notes gates view ear twin batch batches say""".split()
+# World has __eq__ and __len__, so none of these takes a generator expression (L7).
+EAGER = ("any", "all", "min", "max", "sum", "sorted")
+WORDS = re.compile(r"\b(type|typing|typing_extensions|enum|Enum|IntEnum|StrEnum|Flag|IntFlag|Generic|Protocol|ABC|ABCMeta"
+                   r"|namedtuple|NamedTuple|TypedDict|TYPE_CHECKING|abstractmethod)\b|dataclass|overload|contextmanager")
+
+
+def files():
+    return sorted(path for path in PACKAGE.iterdir() if path.name != "__pycache__")
+
+
+def nodes(kind):
+    for path in files():
+        for node in ast.walk(ast.parse(path.read_text())):
+            if isinstance(node, kind):
+                yield path.name, node
+
+
+class LanguageTest(unittest.TestCase):
+    def test_files(self):
+        for path in files():
+            with self.subTest(path.name):
+                self.assertRegex(path.name, r"^[a-z0-9_]+\.py$")
+                text = path.read_text()
+                self.assertRegex(text, r"\A[ -~\n]*\Z")
+                self.assertLessEqual(len(text.splitlines()), 400)
+                self.assertLessEqual(max(map(len, text.splitlines())), 120)
+                self.assertIsNone(WORDS.search(text))
+
+    def test_functions_are_short(self):
+        for name, node in nodes(ast.FunctionDef):
+            self.assertLessEqual(node.end_lineno - node.lineno + 1, 40, (name, node.name))
+
+    def test_imports_are_from_the_package(self):
+        self.assertEqual(list(nodes(ast.Import)), [])
+        for name, node in nodes(ast.ImportFrom):
+            self.assertRegex(node.module, r"^wrapnets\.[a-z_]+$")
+            self.assertEqual(node.level, 0)
+
+    def test_no_name_is_a_method_and_an_attribute(self):
+        methods = set(METHODS)
+        for name, node in nodes(ast.ClassDef):
+            methods |= {row.name for row in node.body if isinstance(row, ast.FunctionDef)}
+        for name, node in nodes(ast.Attribute):
+            if isinstance(node.ctx, ast.Store):
+                self.assertNotIn(node.attr, methods, name)
+
+    def test_no_generator_expression_where_a_list_is_due(self):
+        for name, node in nodes(ast.Call):
+            if isinstance(node.func, ast.Name) and node.func.id in EAGER:
+                self.assertFalse([part for part in node.args if isinstance(part, ast.GeneratorExp)], name)
+
+    def test_barred_statements_and_signs(self):
+        self.assertEqual(list(nodes((ast.Global, ast.AsyncFunctionDef, ast.Div, ast.Set))), [])
+        for name, node in nodes(ast.Compare):
+            for sign, other in zip(node.ops, node.comparators):
+                if isinstance(sign, (ast.Is, ast.IsNot)):
+                    self.assertIn(getattr(other, "value", "a name"), (None, True, False), name)
