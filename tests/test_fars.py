@@ -3,58 +3,18 @@
 import copy
 import random
 import unittest
-from itertools import combinations, product
+from itertools import product
 
-from tests.samples import ANYTHING, FULLEST, GROUNDS, KITE, LINE, LONG_LINE, SQUARE, TWO_PARTS, altered, small_grounds
+from tests.reckoning import next_by_hand, reckoned, turned_by_hand
+from tests.samples import ANYTHING, FULLEST, GROUNDS, KITE, LINE, LONG_LINE, SQUARE, TWO_PARTS
+from tests.samples import altered, random_ground, small_grounds
 from wrapnets.bounds import FAR
 from wrapnets.fars import Fars, far_paper, is_settled
 from wrapnets.roads import Roads
 
 
-def reckoned(houses, roads, up):
-    """The least sums of delays, found by going out from a house beat by beat."""
-    told = []
-    for start in range(houses):
-        came = {start: 0}
-        for beat in range(1, FAR):
-            new = []
-            for (a, b, delay, size), state in zip(roads, up):
-                for one, other in ((a, b), (b, a)):
-                    if state and one in came and came[one] + delay == beat and other not in came:
-                        new.append(other)
-            came.update({house: beat for house in new})
-        told.append(tuple(came.get(house, FAR) for house in range(houses)))
-    return tuple(told)
-
-
-def turned_by_hand(roads, fars):
-    houses = range(len(fars))
-    new = [[FAR] * len(fars) for house in houses]
-    for house in houses:
-        for other in houses:
-            for near, delay, size in roads.neighbours(house):
-                new[house][other] = min(new[house][other], delay + fars[near][other])
-        new[house][house] = 0
-    return tuple(map(tuple, new))
-
-
-def next_by_hand(roads, fars, house, other):
-    best, by = FAR, None
-    for near, delay, size in roads.neighbours(house):
-        if delay + fars[near][other] < best:
-            best, by = delay + fars[near][other], near
-    return by
-
-
 def all_states(roads):
     return product((True, False), repeat=len(roads))
-
-
-def random_ground(source):
-    houses = source.randint(1, 8)
-    pairs = list(combinations(range(houses), 2))
-    chosen = sorted(source.sample(pairs, source.randint(0, min(14, len(pairs)))))
-    return houses, tuple((a, b, source.randint(1, 2), source.randint(16, 80)) for a, b in chosen)
 
 
 class FarPaperTest(unittest.TestCase):

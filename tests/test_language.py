@@ -1,6 +1,7 @@
 """Some rules of LANGUAGE.md that a look at the package's files can show."""
 
 import ast
+import builtins
 import pathlib
 import re
 import unittest
@@ -14,6 +15,13 @@ log ground rooms hands aliases numbers edges table notes gates view ear twin bat
 EAGER = ("any", "all", "min", "max", "sum", "sorted")
 WORDS = re.compile(r"\b(type|typing|typing_extensions|enum|Enum|IntEnum|StrEnum|Flag|IntFlag|Generic|Protocol|ABC|ABCMeta"
                    r"|namedtuple|NamedTuple|TypedDict|TYPE_CHECKING|abstractmethod)\b|dataclass|overload|contextmanager")
+
+# Methods of builtin values that L25 lists and that no rule bars where classes have __eq__, __len__ and add.
+BUILTIN_METHODS = """append clear copy count endswith extend find get index insert isalnum isalpha isdigit islower isspace
+isupper items join keys ljust lower lstrip partition pop remove replace reverse rfind rjust rpartition rsplit rstrip
+setdefault split splitlines startswith strip update upper values zfill bit_length""".split()
+BUILTINS = """len range enumerate zip min max sum abs sorted reversed int str bool bytes list tuple dict set isinstance ord
+repr any all divmod Exception ValueError TypeError KeyError IndexError LookupError""".split()
 
 
 def files():
@@ -67,3 +75,58 @@ class LanguageTest(unittest.TestCase):
             for sign, other in zip(node.ops, node.comparators):
                 if isinstance(sign, (ast.Is, ast.IsNot)):
                     self.assertIn(getattr(other, "value", "a name"), (None, True, False), name)
+
+    def test_module_level(self):
+        allowed = (ast.ImportFrom, ast.FunctionDef, ast.ClassDef, ast.Assign)
+        for path in files():
+            rows = ast.parse(path.read_text()).body
+            self.assertTrue(ast.get_docstring(ast.parse(path.read_text())), path.name)
+            for row in rows[1:]:
+                self.assertIsInstance(row, allowed, path.name)
+            names = [row.name for row in rows if isinstance(row, (ast.FunctionDef, ast.ClassDef))]
+            names += [part.id for row in rows if isinstance(row, ast.Assign) for part in row.targets]
+            names += [part.name for row in rows if isinstance(row, ast.ImportFrom) for part in row.names]
+            self.assertEqual(sorted(names), sorted(set(names)), path.name)
+
+    def test_local_names_are_no_builtins_and_no_imports(self):
+        for path in files():
+            tree = ast.parse(path.read_text())
+            taken = {part.name for row in tree.body if isinstance(row, ast.ImportFrom) for part in row.names}
+            taken |= {row.name for row in tree.body if isinstance(row, ast.ClassDef)} | set(dir(builtins))
+            for node in ast.walk(tree):
+                name = node.arg if isinstance(node, ast.arg) else getattr(node, "id", None)
+                if isinstance(node, ast.arg) or isinstance(getattr(node, "ctx", None), (ast.Store, ast.Del)):
+                    self.assertNotIn(name, taken, path.name)
+                    self.assertFalse((name or "x").startswith("_"), path.name)
+
+    def test_attributes_that_are_read_are_assigned_and_methods_are_known(self):
+        stored = {node.attr for name, node in nodes(ast.Attribute) if isinstance(node.ctx, ast.Store)}
+        own = {row.name for name, node in nodes(ast.ClassDef) for row in node.body if isinstance(row, ast.FunctionDef)}
+        for path in files():
+            tree = ast.parse(path.read_text())
+            called = {node.func for node in ast.walk(tree) if isinstance(node, ast.Call)}
+            for node in ast.walk(tree):
+                if isinstance(node, ast.Attribute):
+                    known = own | set(BUILTIN_METHODS) if node in called else stored
+                    self.assertIn(node.attr, known, path.name)
+
+    def test_builtins_that_are_called(self):
+        for path in files():
+            for node in ast.walk(ast.parse(path.read_text())):
+                if isinstance(node, ast.Name) and node.id in dir(builtins):
+                    self.assertIn(node.id, BUILTINS, path.name)
+
+    def test_strings_and_escapes(self):
+        for path in files():
+            self.assertNotIn("%", path.read_text())
+            self.assertNotRegex(path.read_text(), r"\\[^nt\\'\"]")
+
+    def test_imports_do_not_go_round(self):
+        leads = {path.stem: set() for path in files()}
+        for name, node in nodes(ast.ImportFrom):
+            leads[name[:-3]].add(node.module.split(".")[1])
+        while leads:
+            ends = [name for name in leads if not leads[name] & set(leads)]
+            self.assertTrue(ends, leads)
+            for name in ends:
+                del leads[name]

@@ -103,6 +103,12 @@ class Fars:
         """Of each house a tuple of its fars: a tuple."""
         return self.fars
 
+    def copy_over(self, roads):
+        """Such fars as these are now, over other roads of the same ground."""
+        other = Fars(roads)
+        other.fars = self.fars
+        return other
+
     def nears(self):
         """Of each house its neighbours now."""
         return [self.roads.neighbours(house) for house in range(self.roads.many)]

@@ -76,6 +76,12 @@ class Roads:
         """The neighbours of a house over roads that are up, rising: a tuple of (house, delay, size)."""
         return neighbours_by(self.listed, self.states, house)
 
+    def copy(self):
+        """Roads that stand alike and fall and rise by themselves."""
+        other = Roads(self.many, self.listed)
+        other.states = list(self.states)
+        return other
+
     def change(self, a, b, state):
         """The road between a and b, anything, is up or down from now on."""
         at = self.place_of(a, b)
