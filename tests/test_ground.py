@@ -409,6 +409,20 @@ class HeapsTest(GroundCase):
         self.assertEqual(ground.drops()[3:], ((3 + JOIN, "broken", 0), (3 + JOIN, "broken", 1)))
 
 
+class DropsFromTest(GroundCase):
+    def test_with_the_letters_texts(self):
+        ground = Ground(*PAIR)
+        ground.send(0, 1, "one")
+        ground.send(1, 0, "two")
+        self.assertEqual(ground.drops_from(0), ())
+        ground.step(((1, "lose"),))
+        ground.send(0, 1, "three")
+        ground.fall(0, 1)
+        self.assertEqual(ground.drops_from(0), ((1, "lost", "two"), (1, "fallen", "three")))
+        self.assertEqual(ground.drops_from(1), ((1, "fallen", "three"),))
+        self.assertEqual(ground.drops_from(2), ())
+
+
 class FallTest(GroundCase):
     def test_drops_the_frames_on_it_both_ways(self):
         ground = Ground(*LINE)

@@ -23,6 +23,14 @@ setdefault split splitlines startswith strip update upper values zfill bit_lengt
 BUILTINS = """len range enumerate zip min max sum abs sorted reversed int str bool bytes list tuple dict set isinstance ord
 repr any all divmod Exception ValueError TypeError KeyError IndexError LookupError""".split()
 
+DOUBLE = ("__init__", "__eq__", "__repr__", "__str__", "__len__", "__enter__", "__exit__", "__call__", "__iter__")
+# Names that no attribute has (L26), and those that nothing has (L17).
+NO_ATTRIBUTES = """items keys values pop update append clear extend insert remove reverse setdefault sort args encode decode
+hex fromhex format as_integer_ratio bit_count conjugate from_bytes is_integer to_bytes format_map mro""".split()
+NO_NAMES = """register mro elements open input version_info with_traceback add_note attrgetter breakpoint builtins compile
+copyright credits delattr dir eval exec exit gc getattr globals hasattr help id importlib license locals methodcaller os
+quit setattr super type vars sys""".split()
+
 
 def files():
     return sorted(path for path in PACKAGE.iterdir() if path.name != "__pycache__")
@@ -130,3 +138,73 @@ class LanguageTest(unittest.TestCase):
             self.assertTrue(ends, leads)
             for name in ends:
                 del leads[name]
+
+    def test_errors_are_own_ones_and_made_on_the_spot(self):
+        own = {node.name for name, node in nodes(ast.ClassDef)}
+        for name, node in nodes(ast.ExceptHandler):
+            self.assertIsInstance(node.type, ast.Name, name)
+            self.assertIn(node.type.id, own, name)
+        for name, node in nodes(ast.Raise):
+            self.assertIsInstance(node.exc, ast.Call, name)
+            self.assertIn(node.exc.func.id, own, name)
+            self.assertIsInstance(node.cause, (ast.Name, type(None)), name)
+
+    def test_what_stands_in_a_finally(self):
+        for name, node in nodes(ast.Try):
+            for row in node.finalbody:
+                if isinstance(row, ast.Expr):
+                    self.assertEqual(row.value.func.attr, "append", name)
+                    parts = ast.walk(row.value.args[0])
+                else:
+                    self.assertIsInstance(row, ast.Assign, name)
+                    parts = ast.walk(row.value)
+                for part in parts:
+                    self.assertIsInstance(part, (ast.Name, ast.Attribute, ast.Constant, ast.Tuple, ast.Load), name)
+
+    def test_names_of_methods_and_attributes(self):
+        for name, node in nodes(ast.ClassDef):
+            self.assertEqual(node.decorator_list, [], name)
+            for row in node.body:
+                if isinstance(row, ast.FunctionDef):
+                    self.assertEqual(row.decorator_list, [], name)
+                    self.assertTrue(row.name in DOUBLE or not row.name.startswith("_"), name)
+                    self.assertNotIn(row.name, NO_NAMES, name)
+        for name, node in nodes(ast.Attribute):
+            if isinstance(node.ctx, ast.Store):
+                self.assertNotIn(node.attr, NO_ATTRIBUTES, name)
+        for name, node in nodes((ast.FunctionDef, ast.arg)):
+            self.assertNotIn(node.arg if isinstance(node, ast.arg) else node.name, NO_NAMES, name)
+
+    def test_parameters_and_defaults(self):
+        for name, node in nodes(ast.FunctionDef):
+            self.assertEqual((node.args.posonlyargs, node.args.vararg, node.args.kwarg), ([], None, None), name)
+            for part in node.args.defaults + [part for part in node.args.kw_defaults if part]:
+                self.assertIsInstance(part, (ast.Constant, ast.Name), name)
+
+    def test_dicts_and_lists_at_module_level_have_none_in_them(self):
+        for path in files():
+            for row in ast.parse(path.read_text()).body:
+                if isinstance(row, ast.Assign) and isinstance(row.value, (ast.Dict, ast.List)):
+                    inner = [part for part in ast.walk(row.value) if isinstance(part, (ast.Dict, ast.List))]
+                    self.assertEqual(len(inner), 1, path.name)
+
+    def test_own_functions_and_classes_are_called_with_as_many_things_as_they_take(self):
+        takes = {}
+        for name, node in nodes(ast.ClassDef):
+            for row in node.body:
+                if isinstance(row, ast.FunctionDef):
+                    takes.setdefault(node.name if row.name == "__init__" else row.name, []).append((row.args, 1))
+        for path in files():
+            for row in ast.parse(path.read_text()).body:
+                if isinstance(row, ast.FunctionDef):
+                    takes.setdefault(row.name, []).append((row.args, 0))
+        for name, node in nodes(ast.Call):
+            called = node.func.id if isinstance(node.func, ast.Name) else node.func.attr
+            if called in takes and not [part for part in node.args if isinstance(part, ast.Starred)]:
+                own = 1 if called == "__init__" else 0
+                many = len(node.args) - own
+                fits = [
+                    len(args.args) - first - len(args.defaults) <= many <= len(args.args) - first
+                    for args, first in takes[called]
+                ]
+                self.assertTrue(any(fits) or called in BUILTIN_METHODS, (name, called))

@@ -116,6 +116,10 @@ class Ground:
         """A tuple of (beat, why, letter) of all that was dropped so far."""
         return tuple(self.lost)
 
+    def drops_from(self, at):
+        """A tuple of (beat, why, text of the letter) of what was dropped, from drop number at on."""
+        return tuple([(beat, why, self.sent[letter][3]) for beat, why, letter in self.lost[at:]])
+
     def told(self):
         """The ground itself: (houses, roads, up, fars)."""
         return self.roads.many, self.roads.listed, self.roads.up(), self.fars.rows()
