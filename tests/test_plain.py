@@ -179,6 +179,7 @@ class AnythingTest(unittest.TestCase):
         for kind in ANYTHING + ["Once", "l", ("once",), ["row"]]:
             self.assertIs(is_plain(kind, (RIGHT, OPEN)), False)
             self.assertIs(is_plain(kind, ((), ())), False)
+            self.assertEqual(first_wrong(kind, (RIGHT, OPEN)), 0)
 
     def test_nothing_that_is_handed_in_is_changed(self):
         thing = [["x"], {"k": [1]}]

@@ -82,6 +82,6 @@ def may_pass(gate, room, sender, alias):
         return None
     hearer = hand_behind(heard_by, alias)
     known_as = alias_of(sent_by, sender)
-    if hearer is None or known_as is None or (word, sender, hearer) not in may:
+    if known_as is None or (word, sender, hearer) not in may:
         return None
     return beyond, known_as, hearer

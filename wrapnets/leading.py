@@ -33,7 +33,7 @@ def lost_letters(room, texts, row):
 
 def open_letters(world, room):
     """The letters (sender, number) of hands of the room that ground letters bear, rising: a tuple."""
-    heads = [head for heads in under_way(world) for head in heads]
+    heads = [head for borne in under_way(world) for head in borne]
     return tuple(sorted({(head[2], head[4]) for head in heads if head[0] == room and head[1] in LETTERS}))
 
 
